@@ -1,0 +1,1 @@
+"""Electric networks over all frequencies, exact: the calls are in wirequotients.networks."""
