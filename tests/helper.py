@@ -1,4 +1,5 @@
-"""What the tests share: short ways to write networks, and a second reckoning of the laws, by fractions at one s."""
+"""What the tests share: short ways to write networks, a second reckoning of the laws, by fractions at one s, networks
+that are thrown, and rows that every call refuses."""
 
 from fractions import Fraction
 from itertools import product
@@ -101,8 +102,59 @@ def polynomials_of(answer):
     return top, bottom
 
 
+class Gauss:
+    """A complex number whose parts are fractions."""
+
+    def __init__(self, along, up=0):
+        self.along = Fraction(along)
+        self.up = Fraction(up)
+
+    def __eq__(self, other):
+        other = gauss(other)
+        return (self.along, self.up) == (other.along, other.up)
+
+    def __add__(self, other):
+        other = gauss(other)
+        return Gauss(self.along + other.along, self.up + other.up)
+
+    def __mul__(self, other):
+        other = gauss(other)
+        return Gauss(self.along * other.along - self.up * other.up, self.along * other.up + self.up * other.along)
+
+    __radd__ = __add__
+    __rmul__ = __mul__
+
+    def __neg__(self):
+        return Gauss(-self.along, -self.up)
+
+    def __sub__(self, other):
+        return self + -gauss(other)
+
+    def __rsub__(self, other):
+        return -self + other
+
+    def __truediv__(self, other):
+        other = gauss(other)
+        size = other.along * other.along + other.up * other.up
+        return self * Gauss(other.along / size, -other.up / size)
+
+    def __rtruediv__(self, other):
+        return gauss(other) / self
+
+    def __repr__(self):
+        return f"Gauss({self.along}, {self.up})"
+
+
+def gauss(x):
+    return x if isinstance(x, Gauss) else Gauss(x)
+
+
+def exact(x):
+    return x if isinstance(x, Gauss) else Fraction(x)
+
+
 def at(coefficients, s):
-    result = Fraction(0)
+    result = exact(0)
     for x in coefficients:
         result = result * s + x
     return result
@@ -119,7 +171,7 @@ def unknowns_of(row):
 def solve(names, equations):
     """The one solution of equations (a dict of factors, and a right side), as a dict; None if there isn't just one."""
     assert len(names) == len(equations)
-    rows = [[Fraction(factors.get(name, 0)) for name in names] + [Fraction(right)] for factors, right in equations]
+    rows = [[exact(factors.get(name, 0)) for name in names] + [exact(right)] for factors, right in equations]
     for column in range(len(names)):
         pivot = next((r for r in range(column, len(rows)) if rows[r][column] != 0), None)
         if pivot is None:
@@ -242,3 +294,109 @@ class Dice:
 
     def one_of(self, choices):
         return choices[self.below(len(choices))]
+
+
+NUMBERS = [Fraction(n, d) for n, d in ((1, 1), (2, 1), (3, 1), (1, 2), (2, 3), (5, 4), (7, 1), (1, 9))]
+COILS = (1, 2, 2, 2, 5)
+WIRING = (1, 1, 2, 2, 2, 4, 5, 6, 7, 8, 9, 10, 11, 12, 13, 13)
+
+
+def thrown_number(dice, kind):
+    q = dice.one_of(NUMBERS)
+    if kind in (0, 1, 2, 13):
+        return q if kind != 13 or dice.below(3) else 0
+    if kind == 11:
+        return 0
+    if kind == 12:
+        return dice.below(2)
+    return q if dice.below(2) else -q
+
+
+def thrown_part(dice, kind, last_node, before):
+    places = [dice.below(last_node + 1) for place in range(4)]
+    if kind in (8, 9):
+        places[2] = dice.one_of([k for k, numbers in enumerate(before) if numbers[0] != 3])
+    return part(kind, places, thrown_number(dice, kind))
+
+
+def thrown_coupling(dice, parts):
+    coils = [k for k, numbers in enumerate(parts) if numbers[0] == 2]
+    x, y = dice.one_of(coils), dice.one_of(coils)
+    pairs = [sorted(numbers[1:3]) for numbers in parts if numbers[0] == 3]
+    q = min(number_of(parts[x]), number_of(parts[y])) * dice.one_of((1, -1, Fraction(1, 2), Fraction(-1, 3)))
+    return [] if x == y or sorted((x, y)) in pairs else [part(3, (x, y), q)]
+
+
+def thrown_net(dice, wiring):
+    """A tree of resistors, which leaves most networks regular, a source, then whatever comes."""
+    last_node = 1 + dice.below(6)
+    parts = [part(0, (node, dice.below(node)), dice.one_of(NUMBERS)) for node in range(1, last_node + 1)]
+    parts.append(part(dice.one_of((4, 5)), (1 + dice.below(last_node), 0), dice.below(9) - 4))
+    length = len(parts) + 1 + dice.below(10 - len(parts))
+    while len(parts) < length:
+        kind = dice.one_of(wiring)
+        if kind == 13 and len([numbers for numbers in parts if numbers[0] == 13]) == 3:
+            continue
+        parts.append(thrown_part(dice, kind, last_node, parts))
+        if len(parts) < length and len([numbers for numbers in parts if numbers[0] == 2]) > 1:
+            parts.extend(thrown_coupling(dice, parts))
+    return [last_node] + [number for numbers in parts for number in numbers]
+
+
+def asked_of(row):
+    """Every source with every quantity there is."""
+    parts = rows_of(row)
+    whole = [k for k, numbers in enumerate(parts) if numbers[0] != 3]
+    quantities = [(0, node) for node in range(row[0] + 1)] + [(what, k) for what in (1, 2) for k in whole]
+    return [(k, quantities) for k, numbers in enumerate(parts) if numbers[0] in (4, 5)]
+
+
+# Networks that every call refuses, each with its refusal: -1 and -2.
+WRONG_NETS = [
+    ([], [-1]),
+    ([0], [-1]),
+    ([9], [-1]),
+    ([-1], [-1]),
+    ([MOST], [-1]),
+    (net(0, V(0, 0), R(0, 0, 1)), [-1]),
+    (net(9, V(1, 0), R(1, 0, 1)), [-1]),
+    (net(1, V(1, 0), R(1, 0, 1))[:-1], [-1]),
+    (net(1, V(1, 0), R(1, 0, 1)) + [0], [-1]),
+    (net(1, V(1, 0), *[R(1, 0, 1)] * 10), [-1]),
+    (net(1, V(1, 0), *[R(1, 0, 1)] * 16), [-1]),
+    (net(1, V(1, 0), R(1, 0, 1), *[D(0, 1, 1)] * 4), [-1]),
+    (net(1, V(1, 0), R(1, 0, 1), part(14, (1, 0), 1)), [-1]),
+    (net(1, V(1, 0), R(1, 0, 1), part(-1, (1, 0), 1)), [-1]),
+    (net(1, V(1, 0), R(64, 0, 1)), [-1]),
+    (net(1, V(1, 0), R(1, -1, 1)), [-1]),
+    (net(1, V(1, 0), part(0, (1, 0, 64, 0), 1)), [-1]),
+    (net(1, V(1, 0), part(0, (1, 0, 0, -1), 1)), [-1]),
+    (net(1, V(1, 0), R(1, 0, 1000001)), [-1]),
+    (net(1, V(1, 0, -1000001), R(1, 0, 1)), [-1]),
+    (net(1, V(1, 0), R(1, 0, (1, 0))), [-1]),
+    (net(1, V(1, 0), R(1, 0, (1, 1000001))), [-1]),
+    (net(1, V(1, 0), R(2, 0, 1)), [-2, 1, 1]),
+    (net(1, V(0, 63), R(1, 0, 1)), [-2, 0, 1]),
+    (net(1, V(1, 0), T(1, 0, 0, 2, 1), R(1, 0, 1)), [-2, 1, 1]),
+    (net(1, V(1, 0), R(1, 0, 0)), [-2, 1, 2]),
+    (net(1, V(1, 0), C(1, 0, -1)), [-2, 1, 2]),
+    (net(1, V(1, 0), R(1, 0, 1), S(1, 0, 2)), [-2, 2, 2]),
+    (net(1, V(1, 0), R(1, 0, 1), D(1, 0, -1)), [-2, 2, 2]),
+    (net(1, V(1, 0), R(1, 0, 1), part(11, (1, 0, 1, 0), 1)), [-2, 2, 2]),
+    (net(1, V(1, 0), R(1, 0, 1), H(1, 0, 2, 1)), [-2, 2, 3]),
+    (net(1, V(1, 0), R(1, 0, 1), M(0, 1, 1)), [-2, 2, 3]),
+    (net(2, V(1, 0), R(1, 2, 1), L(2, 0, 1), M(2, 2, 1)), [-2, 3, 3]),
+    (net(3, V(1, 0), R(1, 2, 1), L(2, 0, 1), L(3, 0, 1), M(2, 3, 1), M(3, 2, 1)), [-2, 5, 3]),
+    (net(3, V(1, 0), R(1, 2, 1), L(2, 0, 1), L(3, 0, 1), M(2, 3, (1000000, 999999))), [-2, 4, 2]),
+]
+
+# Networks in which nothing is wrong but that have no operating point.
+POINTLESS = [
+    [1],
+    net(2, V(1, 0), R(1, 0, 1)),
+    net(1, V(1, 0), V(1, 0)),
+    net(1, V(1, 0), L(1, 0, 1)),
+    net(1, I(1, 0, 1), C(1, 0, 1)),
+    net(1, V(1, 0, 2), D(1, 0, 1)),
+    net(1, I(1, 0, 1), D(1, 0, 1)),
+]

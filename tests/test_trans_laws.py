@@ -4,66 +4,14 @@ import unittest
 from fractions import Fraction
 from math import gcd
 
-from tests.helper import Dice, at, number_of, operating_states, part, polynomials_of, quantity, rows_of, solution_at
+from tests.helper import (COILS, WIRING, Dice, asked_of, at, operating_states, polynomials_of, quantity, rows_of,
+                          solution_at, thrown_net)
 from wirequotients.networks import trans
 
 # N and D have at most ten powers each: a quotient that is right at more than twenty regular s is right at all.
 POINTS = [Fraction(n, d) for n, d in ((0, 1), (1, 1), (-1, 1), (2, 1), (-2, 1), (1, 2), (-1, 2), (1, 3), (-1, 3), (3, 1),
                                       (-3, 1), (5, 1), (-5, 1), (2, 3), (-2, 3), (7, 2), (-7, 2), (1, 5), (-1, 5), (9, 1),
                                       (-9, 1), (11, 3), (-11, 3), (4, 7), (-4, 7), (13, 1))]
-NUMBERS = [Fraction(n, d) for n, d in ((1, 1), (2, 1), (3, 1), (1, 2), (2, 3), (5, 4), (7, 1), (1, 9))]
-COILS = (1, 2, 2, 2, 5)
-WIRING = (1, 1, 2, 2, 2, 4, 5, 6, 7, 8, 9, 10, 11, 12, 13, 13)
-
-
-def thrown_number(dice, kind):
-    q = dice.one_of(NUMBERS)
-    if kind in (0, 1, 2, 13):
-        return q if kind != 13 or dice.below(3) else 0
-    if kind == 11:
-        return 0
-    if kind == 12:
-        return dice.below(2)
-    return q if dice.below(2) else -q
-
-
-def thrown_part(dice, kind, last_node, before):
-    places = [dice.below(last_node + 1) for place in range(4)]
-    if kind in (8, 9):
-        places[2] = dice.one_of([k for k, numbers in enumerate(before) if numbers[0] != 3])
-    return part(kind, places, thrown_number(dice, kind))
-
-
-def thrown_coupling(dice, parts):
-    coils = [k for k, numbers in enumerate(parts) if numbers[0] == 2]
-    x, y = dice.one_of(coils), dice.one_of(coils)
-    pairs = [sorted(numbers[1:3]) for numbers in parts if numbers[0] == 3]
-    q = min(number_of(parts[x]), number_of(parts[y])) * dice.one_of((1, -1, Fraction(1, 2), Fraction(-1, 3)))
-    return [] if x == y or sorted((x, y)) in pairs else [part(3, (x, y), q)]
-
-
-def thrown_net(dice, wiring):
-    """A tree of resistors, which leaves most networks regular, a source, then whatever comes."""
-    last_node = 1 + dice.below(6)
-    parts = [part(0, (node, dice.below(node)), dice.one_of(NUMBERS)) for node in range(1, last_node + 1)]
-    parts.append(part(dice.one_of((4, 5)), (1 + dice.below(last_node), 0), dice.below(9) - 4))
-    length = len(parts) + 1 + dice.below(10 - len(parts))
-    while len(parts) < length:
-        kind = dice.one_of(wiring)
-        if kind == 13 and len([numbers for numbers in parts if numbers[0] == 13]) == 3:
-            continue
-        parts.append(thrown_part(dice, kind, last_node, parts))
-        if len(parts) < length and len([numbers for numbers in parts if numbers[0] == 2]) > 1:
-            parts.extend(thrown_coupling(dice, parts))
-    return [last_node] + [number for numbers in parts for number in numbers]
-
-
-def asked_of(row):
-    """Every source with every quantity there is."""
-    parts = rows_of(row)
-    whole = [k for k, numbers in enumerate(parts) if numbers[0] != 3]
-    quantities = [(0, node) for node in range(row[0] + 1)] + [(what, k) for what in (1, 2) for k in whole]
-    return [(k, quantities) for k, numbers in enumerate(parts) if numbers[0] in (4, 5)]
 
 
 def remainder(left, right):

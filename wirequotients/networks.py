@@ -1,8 +1,9 @@
 """The calls: each gives back a list of whole numbers, 0 and what is answered, or a refusal."""
 
+from wirequotients.driving import driven_setting, is_source
 from wirequotients.faults import first_fault
-from wirequotients.kinds import CURRENT_SOURCE, VOLTAGE_SOURCE
-from wirequotients.laws import Setting, law_rows
+from wirequotients.frequencies import is_frequency_row, told_value
+from wirequotients.laws import law_rows
 from wirequotients.operating import operating_states
 from wirequotients.quantities import is_linear_quantity, quantity_top
 from wirequotients.quotients import told_quotient
@@ -10,21 +11,49 @@ from wirequotients.reading import is_network_row, read_network
 from wirequotients.solving import solved
 
 
+class Asked:
+    """What a call is refused with, [] if it isn't; then the quotient that is asked for, top over bottom."""
+
+    def __init__(self, refusal, top, bottom):
+        self.refusal = refusal
+        self.top = top
+        self.bottom = bottom
+
+
 def trans(source, what, k, net):
     """The quantity what of node or element k, driven by the element source, as a quotient."""
+    asked = driven_quantity(source, what, k, net)
+    if asked.refusal:
+        return asked.refusal
+    return [0] + told_quotient(asked.top, asked.bottom)
+
+
+def value(source, what, k, net, s):
+    """The quantity what of node or element k, driven by the element source, at one complex s."""
+    if not is_frequency_row(s):
+        return [-1]
+    asked = driven_quantity(source, what, k, net)
+    if asked.refusal:
+        return asked.refusal
+    told = told_value(asked.top, asked.bottom, s)
+    return [-5] if told is None else [0] + told
+
+
+def driven_quantity(source, what, k, net):
+    """The quantity over the laws' determinant, not shortened: where the laws aren't regular the bottom is 0."""
     refusal = refusal_of_net(net)
     if refusal:
-        return refusal
+        return Asked(refusal, [], [])
     network = read_network(net)
     if not is_source(network, source) or not is_linear_quantity(network, what, k):
-        return [-3]
+        return Asked([-3], [], [])
     states = operating_states(network)
     if states is None:
-        return [-4]
-    setting = Setting(network, [0, 1], states, driven_by(network, source))
+        return Asked([-4], [], [])
+    setting = driven_setting(network, states, source)
     # Regular at s = 0, the operating point, the laws' determinant is not 0: there is a solution.
     solution = solved(law_rows(setting))
-    return [0] + told_quotient(quantity_top(setting, solution, what, k), solution.determinant)
+    return Asked([], quantity_top(setting, solution, what, k), solution.determinant)
 
 
 def refusal_of_net(net):
@@ -33,12 +62,3 @@ def refusal_of_net(net):
         return [-1]
     fault = first_fault(read_network(net))
     return [-2] + fault if fault else []
-
-
-def is_source(network, k):
-    return k < len(network.parts) and network.parts[k].kind in (VOLTAGE_SOURCE, CURRENT_SOURCE)
-
-
-def driven_by(network, source):
-    """What each element is set to: the source to 1, all else to 0."""
-    return [(1, 1) if k == source else (0, 1) for k in range(len(network.parts))]

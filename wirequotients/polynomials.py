@@ -71,6 +71,12 @@ def greatest_divisor(x, y):
     return large
 
 
+def lowest_terms(top, bottom):
+    """top over bottom, a bottom above 0, as a fraction is told."""
+    divisor = greatest_divisor(top, bottom)
+    return [top // divisor, bottom // divisor]
+
+
 def content(polynomial):
     result = 0
     for x in polynomial:
