@@ -186,6 +186,20 @@ def solve(names, equations):
     return {name: rows[column][-1] for column, name in enumerate(names)}
 
 
+def determinant(names, equations):
+    """The determinant of equations such as solve takes."""
+    rows = [[exact(factors.get(name, 0)) for name in names] for factors, right in equations]
+    result = exact(1)
+    while rows:
+        place = next((k for k, row in enumerate(rows) if row[0] != 0), None)
+        if place is None:
+            return exact(0)
+        pivot = rows.pop(place)
+        result *= -pivot[0] if place % 2 else pivot[0]
+        rows = [[x - row[0] / pivot[0] * y for x, y in zip(row, pivot)][1:] for row in rows]
+    return result
+
+
 def sum_of(*terms):
     """A dict of factors out of pairs (factor, name); node 0's voltage is left out."""
     factors = {}
@@ -252,6 +266,10 @@ def equations_of(row, s, states, source):
 
 def solution_at(row, s, states, source):
     return solve(unknowns_of(row), equations_of(row, s, states, source))
+
+
+def determinant_at(row, s, states):
+    return determinant(unknowns_of(row), equations_of(row, s, states, None))
 
 
 def voltage(solution, numbers):

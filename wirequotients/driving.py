@@ -9,6 +9,6 @@ def is_source(network, k):
 
 
 def driven_setting(network, states, source):
-    """The laws' setting with the source at 1, all other sources and the diodes' numbers at 0."""
+    """The laws' setting with the source (None: none) at 1, all other sources and the diodes' numbers at 0."""
     drives = [(1, 1) if k == source else (0, 1) for k in range(len(network.parts))]
     return Setting(network, [0, 1], states, drives)

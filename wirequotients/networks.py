@@ -9,6 +9,7 @@ from wirequotients.quantities import is_linear_quantity, quantity_top
 from wirequotients.quotients import told_quotient
 from wirequotients.reading import is_network_row, read_network
 from wirequotients.solving import solved
+from wirequotients.zeros import count_zeros
 
 
 class Asked:
@@ -37,6 +38,20 @@ def value(source, what, k, net, s):
         return asked.refusal
     told = told_value(asked.top, asked.bottom, s)
     return [-5] if told is None else [0] + told
+
+
+def modes(net):
+    """How many zeros the laws' determinant has: all, left of the axis, on it, right of it."""
+    refusal = refusal_of_net(net)
+    if refusal:
+        return refusal
+    network = read_network(net)
+    states = operating_states(network)
+    if states is None:
+        return [-4]
+    determinant = solved(law_rows(driven_setting(network, states, None))).determinant
+    zeros = count_zeros(determinant)
+    return [0, len(determinant) - 1, zeros.left, zeros.axis, zeros.right]
 
 
 def driven_quantity(source, what, k, net):
