@@ -5,6 +5,7 @@ from wirequotients.faults import first_fault
 from wirequotients.frequencies import is_frequency_row, told_value
 from wirequotients.laws import law_rows
 from wirequotients.operating import operating_states
+from wirequotients.ports import told_y, told_z
 from wirequotients.quantities import is_linear_quantity, quantity_top
 from wirequotients.quotients import told_quotient
 from wirequotients.reading import is_network_row, read_network
@@ -52,6 +53,26 @@ def modes(net):
     determinant = solved(law_rows(driven_setting(network, states, None))).determinant
     zeros = count_zeros(determinant)
     return [0, len(determinant) - 1, zeros.left, zeros.axis, zeros.right]
+
+
+def port(kind, row, col, net, nodes):
+    """z (kind 0) or y (kind 1) of the two ports, nodes' first pair and its second, as a quotient."""
+    if max(kind, row, col) > 1 or len(nodes) != 4:
+        return [-1]
+    refusal = refusal_of_net(net)
+    if refusal:
+        return refusal
+    network = read_network(net)
+    if max(nodes) > network.last_node:
+        return [-3]
+    states = operating_states(network)
+    if states is None:
+        return [-4]
+    ports = [(nodes[0], nodes[1]), (nodes[2], nodes[3])]
+    if kind == 0:
+        return [0] + told_z(network, states, ports[row], ports[col])
+    told = told_y(network, states, ports, row, col)
+    return [-5] if told is None else [0] + told
 
 
 def driven_quantity(source, what, k, net):

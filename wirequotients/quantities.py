@@ -36,4 +36,9 @@ def current_top(setting, solution, k):
 
 def voltage_top(setting, solution, k):
     part = setting.network.parts[k]
-    return subtracted(node_top(solution, part.a), node_top(solution, part.b))
+    return difference_top(solution, part.a, part.b)
+
+
+def difference_top(solution, first, second):
+    """Of the first node's voltage less the second's."""
+    return subtracted(node_top(solution, first), node_top(solution, second))
