@@ -8,7 +8,7 @@ from contextlib import redirect_stderr, redirect_stdout
 from unittest import mock
 
 from tests.helper import C, D, H, I, L, M, O, R, S, T, V, net, part
-from wirequotients.networks import modes, port, trans, value
+from wirequotients.networks import modes, port, same, trans, value
 
 ROWS = [
     net(2, V(1, 0, 5), R(1, 2, 2), C(2, 0, 3)),
@@ -27,6 +27,7 @@ QUESTIONS = [(source, what, k) for source in (0, 1) for what in (0, 1, 2, 3) for
 PLACES = [[0, 1, 0, 1], [1, 2, -3, 4], [-2, 12, 0, 5], [0, 0, 0, 1], [0, 1, 0]]
 PORTS = [(kind, row, col) for kind in (0, 1) for row in (0, 1) for col in (0, 1, 2)]
 NODES = [[1, 0, 2, 0], [1, 0, 0, 1], [1, 2, 2, 0], [0, 1, 9, 0], [1, 0, 2]]
+BOTH_NODES = [([1], [1]), ([0, 1], [1, 0]), ([1, 2], [2, 1]), ([1, 1, 0], [1, 2, 0]), ([9], [1]), ([1], []), ([], [])]
 
 
 def calls():
@@ -35,6 +36,7 @@ def calls():
     told += [(value, (*question, row, s)) for row in ROWS for question in QUESTIONS[::2] for s in PLACES]
     told += [(modes, (row,)) for row in ROWS]
     told += [(port, (*numbers, row, nodes)) for row in ROWS for numbers in PORTS for nodes in NODES]
+    told += [(same, (one, two, *nodes)) for one in ROWS for two in ROWS for nodes in BOTH_NODES]
     return told
 
 
@@ -49,6 +51,7 @@ NAMES = {
     value: ["source", "what", "k", "net", "s"],
     modes: ["net"],
     port: ["kind", "row", "col", "net", "nodes"],
+    same: ["net_one", "net_two", "nodes_one", "nodes_two"],
 }
 
 

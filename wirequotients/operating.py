@@ -2,20 +2,33 @@
 
 from wirequotients.kinds import DIODE
 from wirequotients.laws import Setting, law_rows
-from wirequotients.polynomials import constant_of
-from wirequotients.quantities import current_top, voltage_top
+from wirequotients.polynomials import constant_of, lowest_terms
+from wirequotients.quantities import current_top, node_top, voltage_top
 from wirequotients.solving import solved
 
 
-def operating_states(network):
-    """Of each element whether it is a diode that is on at the operating point; None if there is no such point."""
+class OperatingPoint:
+    """Of each element whether it is a diode that is on there, and the laws' solution at s = 0, all as it stands."""
+
+    def __init__(self, states, solution):
+        self.states = states
+        self.solution = solution
+
+
+def operating_point(network):
+    """The operating point, or None if there is none."""
     own = [(part.top, part.bottom) for part in network.parts]
     for states in rows_of_states(network.parts):
         setting = Setting(network, [], states, own)
         solution = solved(law_rows(setting))
         if solution is not None and all_diodes_agree(setting, solution):
-            return states
+            return OperatingPoint(states, solution)
     return None
+
+
+def told_voltage(point, node):
+    """A node's voltage at the operating point, as a fraction is told."""
+    return lowest_terms(constant_of(node_top(point.solution, node)), constant_of(point.solution.determinant))
 
 
 def rows_of_states(parts):

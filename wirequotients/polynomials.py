@@ -72,8 +72,10 @@ def greatest_divisor(x, y):
 
 
 def lowest_terms(top, bottom):
-    """top over bottom, a bottom above 0, as a fraction is told."""
+    """top over bottom, a bottom that is not 0, as a fraction is told."""
     divisor = greatest_divisor(top, bottom)
+    if bottom < 0:
+        divisor = -divisor
     return [top // divisor, bottom // divisor]
 
 
